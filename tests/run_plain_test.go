@@ -10,14 +10,18 @@ import (
 // plainRun is chapter 2 of the document a second time, kept apart from the program's own form of it: one loop over flat steps,
 // and no lines at all. Who stands in a line, waits for a task or is due is found from what each one asked for, and when.
 func plainRun(p impl.Plan, in impl.Input) impl.Report {
-	r := &plain{p: p, in: in, feed: in.Feed, chans: make([]plainChan, len(p.Rooms))}
-	r.make(0)
-	code := r.all()
+	r, code := plainEnd(p, in)
 	out := impl.Report{Code: code, Recs: r.recs, Time: r.time, Ticks: r.ticks}
 	for _, t := range r.tasks {
 		out.States = append(out.States, t.state)
 	}
 	return out
+}
+
+func plainEnd(p impl.Plan, in impl.Input) (*plain, int) {
+	r := &plain{p: p, in: in, feed: in.Feed, chans: make([]plainChan, len(p.Rooms))}
+	r.make(0)
+	return r, r.all()
 }
 
 type plain struct {

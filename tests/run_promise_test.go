@@ -377,6 +377,11 @@ func TestRunLeavesNoGoroutine(t *testing.T) {
 	if len(codes) != 4 {
 		t.Errorf("not all ends of runs were met: %v", codes)
 	}
+	wantNoGoroutine(t)
+}
+
+func wantNoGoroutine(t *testing.T) {
+	t.Helper()
 	// A goroutine that has said that it is done may need a moment to be gone.
 	for range 200 {
 		if goroutinesOfImpl() == 0 {
