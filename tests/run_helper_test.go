@@ -94,7 +94,7 @@ func toldRec(rec impl.Rec) string {
 	return out
 }
 
-// runCase is a run and its report, worked out by hand from the document.
+// runCase is a run and its report, or the text of its answer, worked out by hand from the document.
 type runCase struct {
 	name string
 	p    impl.Plan

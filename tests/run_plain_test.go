@@ -19,7 +19,12 @@ func plainRun(p impl.Plan, in impl.Input) impl.Report {
 }
 
 func plainEnd(p impl.Plan, in impl.Input) (*plain, int) {
-	r := &plain{p: p, in: in, feed: in.Feed, chans: make([]plainChan, len(p.Rooms))}
+	return plainWatched(p, in, func(*plain) {})
+}
+
+// plainWatched lets somebody see the run at each record.
+func plainWatched(p impl.Plan, in impl.Input, see func(r *plain)) (*plain, int) {
+	r := &plain{p: p, in: in, feed: in.Feed, chans: make([]plainChan, len(p.Rooms)), see: see}
 	r.make(0)
 	return r, r.all()
 }
@@ -36,6 +41,7 @@ type plain struct {
 	time  int64
 	ticks int
 	asks  int
+	see   func(r *plain)
 }
 
 type plainTask struct {
@@ -65,6 +71,7 @@ func (r *plain) make(body int) int {
 
 func (r *plain) rec(kind, task int, num int64) {
 	r.recs = append(r.recs, impl.Rec{Kind: kind, Time: r.time, Task: task, Num: num})
+	r.see(r)
 }
 
 func (r *plain) ready(t *plainTask) {

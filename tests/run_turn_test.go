@@ -151,14 +151,16 @@ func TestRunFailures(t *testing.T) {
 	}
 }
 
-// P2: a plan or an input that is not valid has Code 3, and nothing else.
-func TestRunNotValid(t *testing.T) {
+// notValidCase is a plan and an input of which one is not valid.
+type notValidCase struct {
+	name string
+	p    impl.Plan
+	in   impl.Input
+}
+
+func notValid() []notValidCase {
 	good := planWith(5, rooms(1), says(2))
-	for _, c := range []struct {
-		name string
-		p    impl.Plan
-		in   impl.Input
-	}{
+	return []notValidCase{
 		{"zero values", impl.Plan{}, impl.Input{}},
 		{"no bodies", impl.Plan{Slice: 1}, feed()},
 		{"21 bodies", impl.Plan{Bodies: make([]impl.Body, 21), Slice: 1}, feed()},
@@ -184,7 +186,12 @@ func TestRunNotValid(t *testing.T) {
 		{"an event too late", good, feed(event(1000001, 0, 0))},
 		{"events out of order", good, feed(event(2, 0, 0), event(1, 0, 0))},
 		{"101 events", good, feed(make([]impl.Event, 101)...)},
-	} {
+	}
+}
+
+// P2: a plan or an input that is not valid has Code 3, and nothing else.
+func TestRunNotValid(t *testing.T) {
+	for _, c := range notValid() {
 		r := impl.RunPlan(c.p, c.in)
 		if r.Code != 3 || len(r.Recs) != 0 || r.Time != 0 || r.Ticks != 0 || len(r.States) != 0 {
 			t.Errorf("%s: %s", c.name, told(r))
